@@ -1,0 +1,1 @@
+"""Two pictures of one sky, matched."""
