@@ -8,6 +8,7 @@ OFF_THE_CHIP = -3
 
 PLACES_BELOW = 8192
 MOST_STARS = 24
+MOST_ROWS = 64
 MOST_APART = 65536
 SCALE = 65536
 
@@ -24,20 +25,50 @@ def tm_triangles(s):
         return [OUT_OF_RANGE]
     if off_the_chip(s):
         return [OFF_THE_CHIP]
-    found = triangles_of(s)
-    answer = [len(found)]
-    for triangle in found:
-        answer.extend(triangle)
-    return answer
+    return counted(triangles_of(s))
 
 
 def tm_votes(e, s, t):
     """0, then for each star of s a row of its votes for each star of t, by triangles alike by e."""
-    if e > MOST_APART or star_count(s) > MOST_STARS or star_count(t) > MOST_STARS:
-        return [OUT_OF_RANGE]
-    if off_the_chip(s) or off_the_chip(t):
-        return [OFF_THE_CHIP]
+    refusal = refusal_of_pictures(e, s, t)
+    if refusal != 0:
+        return [refusal]
     return [0] + votes_of(e, s, t)
+
+
+def tm_choose(n, least, l):
+    """How many pairs are chosen of the n rows of votes in l, then each one's row and column."""
+    if n < 1 or n > MOST_ROWS:
+        return [OUT_OF_RANGE]
+    width = len(l) // n
+    if width < 1 or width > MOST_ROWS:
+        return [OUT_OF_RANGE]
+    return counted(pairs_chosen(l, width, least))
+
+
+def tm_match(e, least, s, t):
+    """How many pairs are chosen of the votes of two pictures, then each one's star of s and star of t."""
+    refusal = refusal_of_pictures(e, s, t)
+    if refusal != 0:
+        return [refusal]
+    return counted(pairs_chosen(votes_of(e, s, t), star_count(t), least))
+
+
+def refusal_of_pictures(e, s, t):
+    """The number that refuses to match two pictures by e, or 0 if there's none."""
+    if e > MOST_APART or star_count(s) > MOST_STARS or star_count(t) > MOST_STARS:
+        return OUT_OF_RANGE
+    if off_the_chip(s) or off_the_chip(t):
+        return OFF_THE_CHIP
+    return 0
+
+
+def counted(found):
+    """How many tuples there are, then the numbers of each."""
+    answer = [len(found)]
+    for one in found:
+        answer.extend(one)
+    return answer
 
 
 def star_count(places):
@@ -118,3 +149,22 @@ def votes_of(e, s, t):
             for corner in range(CORNERS):
                 votes[triangle[corner] * width + other[corner]] += 1
     return votes
+
+
+def pairs_chosen(votes, width, least):
+    """Pairs of a row and a column, in the order in which they're chosen of rows of votes, each of them width long."""
+    enough = max(least, 1)
+    cells = [cell for cell in range(len(votes)) if votes[cell] >= enough]
+    # Cells as great stay in their order, so that the first of them, row by row, is met first;
+    # and what's out by then is passed over, so that the greatest left is always the next.
+    rows_out = {}
+    columns_out = {}
+    pairs = []
+    for cell in sorted(cells, key=lambda one: -votes[one]):
+        row = cell // width
+        column = cell % width
+        if row not in rows_out and column not in columns_out:
+            rows_out[row] = True
+            columns_out[column] = True
+            pairs.append((row, column))
+    return pairs
