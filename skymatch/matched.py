@@ -1,16 +1,22 @@
 """The calls that match two pictures of one sky, and what they are made of.
 
-Places lie in flat lists, x and y one behind the other, as they are handed in.
+Places lie in flat lists, x and y one behind the other, as they are handed in;
+so do pairs, x and y of a place, then u and v of its partner.
 """
 
 OUT_OF_RANGE = -2
 OFF_THE_CHIP = -3
+NO_FIT = -4
 
 PLACES_BELOW = 8192
 MOST_STARS = 24
 MOST_ROWS = 64
+MOST_PAIRS = 32
+MOST_CARRIED = 4096
 MOST_APART = 65536
 SCALE = 65536
+FIT_SCALE = 16384
+WORDS = 4294967296
 
 # A triangle is a tuple of six: its corners come first, so that they count from 0.
 CORNERS = 3
@@ -18,10 +24,17 @@ U = 3
 V = 4
 LEFT = 5
 
+# A fit is a tuple of five: what the document calls n a, n b, c, d and n g.
+NA = 0
+NB = 1
+C = 2
+D = 3
+NG = 4
+
 
 def tm_triangles(s):
     """How many triangles the stars of s make, then each one's corners a, b, c, its u, v, and 1 if it's left."""
-    if star_count(s) > MOST_STARS:
+    if place_count(s) > MOST_STARS:
         return [OUT_OF_RANGE]
     if off_the_chip(s):
         return [OFF_THE_CHIP]
@@ -51,12 +64,42 @@ def tm_match(e, least, s, t):
     refusal = refusal_of_pictures(e, s, t)
     if refusal != 0:
         return [refusal]
-    return counted(pairs_chosen(votes_of(e, s, t), star_count(t), least))
+    return counted(pairs_chosen(votes_of(e, s, t), place_count(t), least))
+
+
+def tm_fit(ps):
+    """0, 4 and the four words of the pairs' fit, then how many pairs there are and how far off each one is."""
+    if pair_count(ps) > MOST_PAIRS:
+        return [OUT_OF_RANGE]
+    if off_the_chip(ps):
+        return [OFF_THE_CHIP]
+    fit = fit_of(ps)
+    if fit is None:
+        return [NO_FIT]
+    words = words_of_fit(fit)
+    far_off = [how_far_off(fit, ps, pair) for pair in range(pair_count(ps))]
+    return [0, len(words)] + words + [len(far_off)] + far_off
+
+
+def tm_carry(ps, xy):
+    """0, then two words for each place of xy: where the pairs' fit carries it."""
+    if pair_count(ps) > MOST_PAIRS or place_count(xy) > MOST_CARRIED:
+        return [OUT_OF_RANGE]
+    if off_the_chip(ps) or off_the_chip(xy):
+        return [OFF_THE_CHIP]
+    fit = fit_of(ps)
+    if fit is None:
+        return [NO_FIT]
+    answer = [0]
+    for k in range(place_count(xy)):
+        to = carried(fit, xy[2 * k], xy[2 * k + 1])
+        answer.extend([word(to[0]), word(to[1])])
+    return answer
 
 
 def refusal_of_pictures(e, s, t):
     """The number that refuses to match two pictures by e, or 0 if there's none."""
-    if e > MOST_APART or star_count(s) > MOST_STARS or star_count(t) > MOST_STARS:
+    if e > MOST_APART or place_count(s) > MOST_STARS or place_count(t) > MOST_STARS:
         return OUT_OF_RANGE
     if off_the_chip(s) or off_the_chip(t):
         return OFF_THE_CHIP
@@ -71,18 +114,26 @@ def counted(found):
     return answer
 
 
-def star_count(places):
+def place_count(places):
     return len(places) // 2
 
 
-def off_the_chip(places):
-    return any([number >= PLACES_BELOW for number in places])
+def pair_count(pairs):
+    return len(pairs) // 4
 
 
-def squared_distance(places, i, j):
-    across = places[2 * i] - places[2 * j]
-    along = places[2 * i + 1] - places[2 * j + 1]
-    return across * across + along * along
+def off_the_chip(numbers):
+    return any([number >= PLACES_BELOW for number in numbers])
+
+
+def how_far(x, y, u, v):
+    """How far (x, y) and (u, v) are, squared."""
+    return (x - u) * (x - u) + (y - v) * (y - v)
+
+
+def side_of(places, i, j):
+    """How far stars i and j are, squared."""
+    return how_far(places[2 * i], places[2 * i + 1], places[2 * j], places[2 * j + 1])
 
 
 def turning(places, a, b, c):
@@ -99,9 +150,9 @@ def turning(places, a, b, c):
 def triangle_of(places, i, j, k):
     """The corners a, b, c, then u, v and left, of the triangle of three stars; None if they make none."""
     sides = sorted([
-        (squared_distance(places, j, k), i),
-        (squared_distance(places, i, k), j),
-        (squared_distance(places, i, j), k),
+        (side_of(places, j, k), i),
+        (side_of(places, i, k), j),
+        (side_of(places, i, j), k),
     ])
     shortest = sides[0][0]
     middle = sides[1][0]
@@ -119,7 +170,7 @@ def triangle_of(places, i, j, k):
 
 def triangles_of(places):
     """All triangles of the stars, by their first star, then the second, then the third."""
-    count = star_count(places)
+    count = place_count(places)
     found = []
     for i in range(count):
         for j in range(i + 1, count):
@@ -141,8 +192,8 @@ def alike_to(triangle, others, e):
 
 def votes_of(e, s, t):
     """The votes of each star of s for each of t, row by row in one flat list."""
-    width = star_count(t)
-    votes = [0] * (star_count(s) * width)
+    width = place_count(t)
+    votes = [0] * (place_count(s) * width)
     others = triangles_of(t)
     for triangle in triangles_of(s):
         for other in alike_to(triangle, others, e):
@@ -168,3 +219,62 @@ def pairs_chosen(votes, width, least):
             columns_out[column] = True
             pairs.append((row, column))
     return pairs
+
+
+def rounded(above, below):
+    """The whole number nearest to the quotient, of two as near the greater; below is above 0."""
+    return (2 * above + below) // (2 * below)
+
+
+def word(number):
+    return number % WORDS
+
+
+def products(these, those):
+    """The sum of the products of the numbers that stand at the same place of two lists."""
+    return sum([these[k] * those[k] for k in range(len(these))])
+
+
+def fit_of(pairs):
+    """The fit of the pairs, a tuple of five, or None if there's no fit."""
+    xs = pairs[0::4]
+    ys = pairs[1::4]
+    us = pairs[2::4]
+    vs = pairs[3::4]
+    n = len(xs)
+    x = sum(xs)
+    y = sum(ys)
+    u = sum(us)
+    v = sum(vs)
+    g = n * (products(xs, xs) + products(ys, ys)) - x * x - y * y
+    if g == 0:
+        return None
+    a = n * (products(xs, us) + products(ys, vs)) - x * u - y * v
+    b = n * (products(xs, vs) - products(ys, us)) - x * v + y * u
+    c = u * g - (a * x - b * y)
+    d = v * g - (b * x + a * y)
+    return (n * a, n * b, c, d, n * g)
+
+
+def words_of_fit(fit):
+    """How the fit turns and widens (two words, 16384 for one), then how it moves (two more)."""
+    ng = fit[NG]
+    return [
+        word(rounded(FIT_SCALE * fit[NA], ng)),
+        word(rounded(FIT_SCALE * fit[NB], ng)),
+        word(rounded(fit[C], ng)),
+        word(rounded(fit[D], ng)),
+    ]
+
+
+def carried(fit, x, y):
+    """Where the fit carries a place: its x and y, which may be below 0."""
+    across = fit[NA] * x - fit[NB] * y + fit[C]
+    along = fit[NB] * x + fit[NA] * y + fit[D]
+    return (rounded(across, fit[NG]), rounded(along, fit[NG]))
+
+
+def how_far_off(fit, pairs, pair):
+    """How far a pair's place, carried, is from its partner, squared."""
+    to = carried(fit, pairs[4 * pair], pairs[4 * pair + 1])
+    return how_far(to[0], to[1], pairs[4 * pair + 2], pairs[4 * pair + 3])

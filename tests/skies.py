@@ -1,4 +1,6 @@
-"""Pictures and lists that several tests use."""
+"""Pictures, lists and other ways of working things out that several tests use."""
+from fractions import Fraction
+from math import floor
 
 
 class Untouched(list):
@@ -50,3 +52,35 @@ def first_difference(answer, expected):
         if one != other:
             return f"at {k}: {one} in place of {other}"
     return None
+
+
+def paired(places, partners):
+    """Pairs of four numbers of the places of two lists."""
+    answer = []
+    for k in range(0, len(places), 2):
+        answer.extend(places[k:k + 2] + partners[k:k + 2])
+    return answer
+
+
+def nearest(quotient):
+    return floor(quotient + Fraction(1, 2))
+
+
+def fit_by_fractions(ps):
+    """The least squares worked out in another way, with fractions, about the middle of the places and partners.
+
+    Turned and widened by p + q i, then moved by (r, t): p, q, r, t; None if all places are the same.
+    """
+    pairs = [ps[k:k + 4] for k in range(0, len(ps), 4)]
+    if all(pair[:2] == pairs[0][:2] for pair in pairs):
+        return None
+    mx, my, mu, mv = [Fraction(sum(numbers), len(pairs)) for numbers in zip(*pairs)]
+    squares = sum((x - mx) ** 2 + (y - my) ** 2 for x, y, u, v in pairs)
+    p = sum((x - mx) * (u - mu) + (y - my) * (v - mv) for x, y, u, v in pairs) / squares
+    q = sum((x - mx) * (v - mv) - (y - my) * (u - mu) for x, y, u, v in pairs) / squares
+    return p, q, mu - p * mx + q * my, mv - q * mx - p * my
+
+
+def carried_by_fractions(fit, x, y):
+    p, q, r, t = fit
+    return nearest(p * x - q * y + r), nearest(q * x + p * y + t)
