@@ -12,7 +12,10 @@ PLACES_BELOW = 8192
 MOST_STARS = 24
 MOST_ROWS = 64
 MOST_PAIRS = 32
+FEWEST_PAIRS = 2
 MOST_CARRIED = 4096
+MOST_PAIRED = 64
+MOST_REACH = 65535
 MOST_APART = 65536
 SCALE = 65536
 FIT_SCALE = 16384
@@ -77,7 +80,7 @@ def tm_fit(ps):
     if fit is None:
         return [NO_FIT]
     words = words_of_fit(fit)
-    far_off = [how_far_off(fit, ps, pair) for pair in range(pair_count(ps))]
+    far_off = all_far_off(fit, ps)
     return [0, len(words)] + words + [len(far_off)] + far_off
 
 
@@ -90,11 +93,31 @@ def tm_carry(ps, xy):
     fit = fit_of(ps)
     if fit is None:
         return [NO_FIT]
-    answer = [0]
-    for k in range(place_count(xy)):
-        to = carried(fit, xy[2 * k], xy[2 * k + 1])
-        answer.extend([word(to[0]), word(to[1])])
-    return answer
+    return [0] + [word(number) for number in places_carried(fit, xy)]
+
+
+def tm_clean(r, ps):
+    """How many pairs are left once those that fit badly, by r, have gone, then four numbers for each."""
+    if r > MOST_REACH or pair_count(ps) > MOST_PAIRS:
+        return [OUT_OF_RANGE]
+    if off_the_chip(ps):
+        return [OFF_THE_CHIP]
+    left = pairs_cleaned(r, ps)
+    return [pair_count(left)] + left
+
+
+def tm_grow(r, ps, s, t):
+    """How many pairs the fit of ps makes of two pictures' stars, by r, then each one's star of s and star of t."""
+    if r > MOST_REACH or pair_count(ps) > MOST_PAIRS:
+        return [OUT_OF_RANGE]
+    if place_count(s) > MOST_PAIRED or place_count(t) > MOST_PAIRED:
+        return [OUT_OF_RANGE]
+    if off_the_chip(ps) or off_the_chip(s) or off_the_chip(t):
+        return [OFF_THE_CHIP]
+    fit = fit_of(ps)
+    if fit is None:
+        return [NO_FIT]
+    return counted(pairs_grown(r, fit, s, t))
 
 
 def refusal_of_pictures(e, s, t):
@@ -278,3 +301,54 @@ def how_far_off(fit, pairs, pair):
     """How far a pair's place, carried, is from its partner, squared."""
     to = carried(fit, pairs[4 * pair], pairs[4 * pair + 1])
     return how_far(to[0], to[1], pairs[4 * pair + 2], pairs[4 * pair + 3])
+
+
+def all_far_off(fit, pairs):
+    return [how_far_off(fit, pairs, pair) for pair in range(pair_count(pairs))]
+
+
+def pairs_cleaned(r, pairs):
+    """The pairs that are left, in order, when the one that's farthest off goes again and again, if it's too far."""
+    left = list(pairs)
+    while pair_count(left) > FEWEST_PAIRS:
+        fit = fit_of(left)
+        if fit is None:
+            return left
+        far_off = all_far_off(fit, left)
+        farthest = max(far_off)
+        if farthest <= r * r:
+            return left
+        goes = far_off.index(farthest)
+        left = left[:4 * goes] + left[4 * goes + 4:]
+    return left
+
+
+def places_carried(fit, places):
+    """Where the fit carries each of the places, in one flat list; its numbers may be below 0."""
+    lying = []
+    for k in range(place_count(places)):
+        lying.extend(carried(fit, places[2 * k], places[2 * k + 1]))
+    return lying
+
+
+def nearest_of(places, x, y):
+    """Which of the places, at least one, is the nearest to (x, y), of as near ones the first."""
+    far = [how_far(places[2 * k], places[2 * k + 1], x, y) for k in range(place_count(places))]
+    return far.index(min(far))
+
+
+def pairs_grown(r, fit, s, t):
+    """Pairs of a star of s and one of t that are, once carried, each other's nearest, and no farther than r r."""
+    if len(s) == 0 or len(t) == 0:
+        return []
+    lying = places_carried(fit, s)
+    pairs = []
+    for i in range(place_count(s)):
+        x = lying[2 * i]
+        y = lying[2 * i + 1]
+        j = nearest_of(t, x, y)
+        u = t[2 * j]
+        v = t[2 * j + 1]
+        if nearest_of(lying, u, v) == i and how_far(x, y, u, v) <= r * r:
+            pairs.append((i, j))
+    return pairs
