@@ -9,11 +9,13 @@ OFF_THE_CHIP = -3
 NO_FIT = -4
 
 PLACES_BELOW = 8192
+FAR_PLACES_BELOW = 65536
 MOST_STARS = 24
 MOST_ROWS = 64
 MOST_PAIRS = 32
 FEWEST_PAIRS = 2
 MOST_CARRIED = 4096
+MOST_FAR = 4096
 MOST_PAIRED = 64
 MOST_REACH = 65535
 MOST_APART = 65536
@@ -120,6 +122,13 @@ def tm_grow(r, ps, s, t):
     return counted(pairs_grown(r, fit, s, t))
 
 
+def tm_far(p, q):
+    """0, then how far each place of p is, squared, from the place that stands there in q."""
+    if place_count(p) > MOST_FAR or any_from(p, FAR_PLACES_BELOW) or any_from(q, FAR_PLACES_BELOW):
+        return [OUT_OF_RANGE]
+    return [0] + [how_far(p[k], p[k + 1], q[k], q[k + 1]) for k in range(0, len(p), 2)]
+
+
 def refusal_of_pictures(e, s, t):
     """The number that refuses to match two pictures by e, or 0 if there's none."""
     if e > MOST_APART or place_count(s) > MOST_STARS or place_count(t) > MOST_STARS:
@@ -145,8 +154,13 @@ def pair_count(pairs):
     return len(pairs) // 4
 
 
+def any_from(numbers, bound):
+    """Is one of the numbers not below the bound?"""
+    return any([number >= bound for number in numbers])
+
+
 def off_the_chip(numbers):
-    return any([number >= PLACES_BELOW for number in numbers])
+    return any_from(numbers, PLACES_BELOW)
 
 
 def how_far(x, y, u, v):

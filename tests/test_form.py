@@ -34,6 +34,11 @@ def names_bound(tree):
     return bound | {node.id for node in ast.walk(tree) if isinstance(node, ast.Name) and isinstance(node.ctx, ast.Store)}
 
 
+def names_called(function):
+    calls = [node for node in ast.walk(function) if isinstance(node, ast.Call)]
+    return {call.func.id for call in calls if isinstance(call.func, ast.Name)}
+
+
 class Form(unittest.TestCase):
     def each_file(self):
         for path in FILES:
@@ -82,6 +87,38 @@ class Form(unittest.TestCase):
                 self.assertRegex(name, r"\A[A-Za-z][A-Za-z0-9_]*\Z")
             used = {node.id for node in ast.walk(tree) if isinstance(node, ast.Name)}
             self.assertEqual(used - bound - set(PYTHONS_OWN), set())
+
+    def test_the_top_of_a_file_binds_each_name_once(self):
+        for text, tree in self.each_file():
+            bound = []
+            for k, node in enumerate(tree.body):
+                if k == 0:
+                    self.assertIsInstance(ast.get_docstring(tree), str)
+                elif isinstance(node, ast.FunctionDef):
+                    bound.append(node.name)
+                else:
+                    self.assertIsInstance(node, ast.Assign, node.lineno)
+                    self.assertIs(type(ast.literal_eval(node.value)), int)
+                    bound.append(node.targets[0].id)
+            self.assertEqual(len(bound), len(set(bound)))
+
+    def test_is_stands_beside_none_alone_and_texts_are_plain(self):
+        for text, tree in self.each_file():
+            for node in ast.walk(tree):
+                if isinstance(node, ast.Compare) and isinstance(node.ops[0], (ast.Is, ast.IsNot)):
+                    self.assertIsInstance(node.comparators[0], ast.Constant, node.lineno)
+                if isinstance(node, ast.Constant) and isinstance(node.value, str):
+                    self.assertNotIn("%", node.value)
+
+    def test_no_function_comes_back_to_itself(self):
+        for text, tree in self.each_file():
+            calls = {node.name: names_called(node) for node in tree.body if isinstance(node, ast.FunctionDef)}
+            while calls:
+                # Those that call none of the ones left are done with; where none is, they go round in a ring.
+                done = [name for name in calls if not calls[name] & set(calls)]
+                self.assertNotEqual(done, [], sorted(calls))
+                for name in done:
+                    del calls[name]
 
 
 if __name__ == "__main__":

@@ -158,7 +158,8 @@ class EdgesOfGrow(unittest.TestCase):
     def test_r_of_0_and_of_65535(self):
         self.assertEqual(tm_grow(0, ON_ITSELF, [0, 0, 8191, 8191], [8191, 8191, 0, 1]), [1, 1, 0])
         self.assertEqual(tm_grow(65535, ON_ITSELF, [0, 0], [8191, 8191]), [1, 0, 0])
-        # (x, y) comes to lie at (65 x, 65 y): (1009, 0) at (65585, 0), so 65535 from (50, 0), and one more from (49, 0).
+        # (x, y) comes to lie at (65 x, 65 y): (1009, 0) at (65585, 0).
+        # That is 65535 from (50, 0), and one more from (49, 0).
         wide = [0, 0, 0, 0, 1, 0, 65, 0]
         self.assertEqual(tm_grow(65535, wide, [1009, 0], [50, 0]), [1, 0, 0])
         self.assertEqual(tm_grow(65535, wide, [1009, 0], [49, 0]), [0])
